@@ -1,0 +1,1 @@
+"""Manyhands: a shared outline that many write at once."""
