@@ -115,6 +115,42 @@ class Language(unittest.TestCase):
             of_pythons = any(hasattr(value, node.attr) for value in PYTHONS_VALUES)
             self.assertTrue(node.attr in METHODS + DUNDERS or not of_pythons, place)
 
+    def test_no_name_is_a_method_and_a_value(self):
+        methods = [part.name for place, node in self.nodes(ast.ClassDef) for part in node.body
+                   if isinstance(part, ast.FunctionDef)]
+        for place, node in self.nodes(ast.Attribute):
+            if isinstance(node.ctx, ast.Store):
+                self.assertNotIn(node.attr, methods, place)
+        for place, node in self.nodes(ast.ClassDef):
+            names = [part.name for part in node.body if isinstance(part, ast.FunctionDef)]
+            self.assertEqual(len(names), len(set(names)), place)
+
+    def test_values_are_compared_with_is_to_none_and_truths_alone(self):
+        for place, node in self.nodes(ast.Compare):
+            for operator, right in zip(node.ops, node.comparators):
+                if isinstance(operator, (ast.Is, ast.IsNot)):
+                    self.assertIsInstance(right, ast.Constant, place)
+
+    def test_no_local_is_called_like_what_its_file_imports_or_like_its_classes(self):
+        for path, tree in self.trees.items():
+            taken = [node.name for node in tree.body if isinstance(node, ast.ClassDef)]
+            taken += [alias.name for node in tree.body if isinstance(node, ast.ImportFrom) for alias in node.names]
+            for node in ast.walk(tree):
+                if isinstance(node, ast.arg):
+                    self.assertNotIn(node.arg, taken, path.name)
+                if isinstance(node, ast.Name) and isinstance(node.ctx, ast.Store):
+                    self.assertNotIn(node.id, taken, path.name)
+
+    def test_no_two_files_draw_from_one_another(self):
+        drawn = {
+            path.stem: {node.module.split(".")[1] for node in tree.body if isinstance(node, ast.ImportFrom)}
+            for path, tree in self.trees.items()
+        }
+        while drawn:
+            free = [name for name, others in drawn.items() if not others & set(drawn)]
+            self.assertTrue(free, drawn)
+            drawn = {name: others for name, others in drawn.items() if name not in free}
+
 
 if __name__ == "__main__":
     unittest.main()
