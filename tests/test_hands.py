@@ -387,6 +387,10 @@ class Giving(Taking):
     def test_numbers_below_nought_are_not_refused(self):
         self.assertEqual(give(self.hand, [-1] * 16), give(self.hand, NONE))
 
+    def test_lists_of_other_lengths_are_not_refused(self):
+        self.assertEqual(give(self.hand, [0] * 17), give(self.hand, NONE))
+        self.assertEqual(give(self.hand, [0] * 15), give(self.hand, NONE))
+
     def test_own_ones_are_given_too(self):
         accept(self.hand, op(0, 1, 5))
         self.assertEqual(give(self.hand, self.have(h1=1, h2=1, h3=1, h15=1)), [op(0, 1, 5), op(1, 2, 5), op(2, 2, 9)])
