@@ -2,6 +2,12 @@
 
 import random
 
+from manyhands.asking import pages
+from manyhands.errors import Nothing, NotThere
+from manyhands.hands import Hand
+from manyhands.ours import cut, drop, move, place, put, redo, undo, write
+from manyhands.sharing import met, told
+
 SIGNS = "abc XYZ~!"
 
 
@@ -60,3 +66,47 @@ def mixed(seed, operations):
         messages.append(rest[:many])
         rest = rest[many:]
     return messages
+
+
+def some_work(chance, hand):
+    """The hand tries one operation of its own; what is refused makes nothing."""
+    names = [name for depth, name in pages(hand, "root") + pages(hand, "bin")]
+    item, above = chance.choice(names), chance.choice(names + [(9, 99)])
+    sibling = chance.choice(names[1:] + [None])
+    sibling = None if sibling == "bin" else sibling
+    try:
+        kind = chance.choice(["put", "put", "put", "write", "write", "cut", "move", "drop", "place", "undo", "redo"])
+        if kind == "put":
+            return [put(hand, above, sibling)]
+        if kind == "move":
+            return [move(hand, item, above, sibling)]
+        if kind == "drop":
+            return [drop(hand, item)]
+        if kind == "place":
+            return [place(hand, item, chance.randrange(5), chance.randrange(-2, 3))]
+        if kind == "write":
+            words = "".join(chance.choice(SIGNS) for k in range(chance.choice([0, 1, 3, 16, 17, 40])))
+            return write(hand, item, chance.randrange(12), words)
+        if kind == "cut":
+            return cut(hand, item, chance.randrange(8), chance.randrange(12))
+        return [undo(hand) if kind == "undo" else redo(hand)]
+    except (NotThere, Nothing):
+        return []
+
+
+def worked(seed, hands, steps):
+    """So many hands after so many steps of work and of telling one another some of it."""
+    chance = random.Random(seed)
+    row = [Hand(ours) for ours in range(hands)]
+    for step in range(steps):
+        some_work(chance, chance.choice(row))
+        if chance.random() < 0.3:
+            one, other = chance.sample(row, 2)
+            told(one, other, chance.randrange(5))
+    return row
+
+
+def all_met(row):
+    """Everybody hears of everything."""
+    for hand in row + row:
+        met(row[0], hand)
